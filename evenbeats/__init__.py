@@ -1,0 +1,1 @@
+"""Periods of what's seen now and then."""
