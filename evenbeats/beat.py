@@ -2,6 +2,7 @@
 
 from evenbeats.fraction import lowest_terms
 from evenbeats.stretch import find_stretches
+from evenbeats.window import window_not_ahead, window_of_beat_0
 
 SHORTEST_LO = 8
 LONGEST_HI = 1000
@@ -10,12 +11,25 @@ MOST_TIMES = 10
 GREATEST_BELOW = 1000
 
 # How many whole numbers stand behind each call's own number.
-HANDED_NUMBERS = (3, 1, 1, 0, 2, 1)
+HANDED_NUMBERS = (3, 1, 1, 0, 2, 1, 2, 1, 3, 0, 0)
 
 
 def is_askable(above, below):
     """Whether one may ask for that fraction as a period."""
     return 1 <= below <= GREATEST_BELOW and 1 <= above <= LONGEST_HI * below
+
+
+def told_list(numbers):
+    """A list as it is answered, behind how many numbers it has."""
+    return [len(numbers)] + numbers
+
+
+def told_window(window):
+    """0, then the window's two ends, a list each."""
+    told = [0]
+    for end in window:
+        told.extend(told_list(list(lowest_terms(end))))
+    return told
 
 
 class EvenBeat:
@@ -34,6 +48,27 @@ class EvenBeat:
         """Have these times from now on."""
         self.seen_times = times
         self.stretches = self.stretches_with(times)
+
+    def stretch_of(self, period):
+        """The stretch that the fraction is a period of; None if it's no period."""
+        for stretch in self.stretches:
+            if stretch.holds(period):
+                return stretch
+        return None
+
+    def window_refusal(self, above, below):
+        """The refusal that's due where a beat 0 by that period is asked for; 0 if none is."""
+        if not is_askable(above, below):
+            return -1
+        if len(self.seen_times) == 0:
+            return -2
+        if self.stretch_of((above, below)) is None:
+            return -6
+        return 0
+
+    def window_by(self, period):
+        """The window of the beat 0 by a period, where there are times."""
+        return window_of_beat_0(self.seen_times, self.stretch_of(period).row, self.off, period)
 
     def begins(self, lo, hi, off):
         """New bounds and no times: 0, or a refusal."""
@@ -72,16 +107,16 @@ class EvenBeat:
         for stretch in self.stretches:
             bounds.extend(lowest_terms(stretch.shortest))
             bounds.extend(lowest_terms(stretch.longest))
-        return [len(self.stretches), len(bounds)] + bounds
+        return [len(self.stretches)] + told_list(bounds)
 
     def fits(self, above, below):
         """0 if the fraction is no period; or 1, then the list of the beats; or a refusal."""
         if not is_askable(above, below):
             return [-1]
-        for stretch in self.stretches:
-            if stretch.holds((above, below)):
-                return [1, len(stretch.row)] + stretch.row
-        return [0]
+        stretch = self.stretch_of((above, below))
+        if stretch is None:
+            return [0]
+        return [1] + told_list(stretch.row)
 
     def could(self, time):
         """How many stretches there would be with that time too, or a refusal."""
@@ -91,6 +126,40 @@ class EvenBeat:
             return len(self.stretches)
         # Ten times that are there already don't matter: nothing is kept.
         return len(self.stretches_with(sorted(self.seen_times + [time])))
+
+    def window(self, above, below):
+        """0, then the least beat 0 and the greatest, a list each; or a refusal."""
+        refusal = self.window_refusal(above, below)
+        if refusal < 0:
+            return [refusal]
+        return told_window(self.window_by((above, below)))
+
+    def beats(self, stretch):
+        """How many beats the stretch has, then the list of them; or a refusal."""
+        if stretch >= len(self.stretches):
+            return [-2]
+        row = self.stretches[stretch].row
+        return [len(row)] + told_list(row)
+
+    def next_one(self, above, below, time):
+        """0, then from when to when the next beat can be, a list each; or a refusal."""
+        if time > LATEST_TIME:
+            return [-1]
+        refusal = self.window_refusal(above, below)
+        if refusal < 0:
+            return [refusal]
+        period = (above, below)
+        return told_window(window_not_ahead(self.window_by(period), period, time))
+
+    def alone(self):
+        """1 if there's just one stretch, else 0."""
+        if len(self.stretches) == 1:
+            return 1
+        return 0
+
+    def times(self):
+        """How many times there are, then the list of them."""
+        return [len(self.seen_times)] + told_list(self.seen_times)
 
 
 def answer_call(beat, call, numbers):
@@ -105,7 +174,17 @@ def answer_call(beat, call, numbers):
         return beat.periods()
     if call == 4:
         return beat.fits(numbers[0], numbers[1])
-    return [beat.could(numbers[0])]
+    if call == 5:
+        return [beat.could(numbers[0])]
+    if call == 6:
+        return beat.window(numbers[0], numbers[1])
+    if call == 7:
+        return beat.beats(numbers[0])
+    if call == 8:
+        return beat.next_one(numbers[0], numbers[1], numbers[2])
+    if call == 9:
+        return [beat.alone()]
+    return beat.times()
 
 
 def answers(calls):

@@ -1,8 +1,8 @@
-"""Fractions: tuples of what's above and what's below, which is 1 or more."""
+"""Fractions: tuples of what's above, which may be below 0, and what's below, which is 1 or more."""
 
 
 def greatest_divisor(first, second):
-    """The greatest whole number that divides both."""
+    """The greatest whole number that divides both; the second is above 0."""
     while second > 0:
         rest = first % second
         first = second

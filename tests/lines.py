@@ -27,6 +27,26 @@ def could(time):
     return [5, time]
 
 
+def window(above, below):
+    return [6, above, below]
+
+
+def beats(stretch):
+    return [7, stretch]
+
+
+def next_one(above, below, time):
+    return [8, above, below, time]
+
+
+def alone():
+    return [9]
+
+
+def times_seen():
+    return [10]
+
+
 def split(told):
     """The answers, each the list of its numbers, of what is told in one row."""
     found = []

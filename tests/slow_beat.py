@@ -1,7 +1,8 @@
 """A slow and plain reckoning of what the calls answer, straight from the document's words.
 
 It knows nothing of stretches that are narrowed time by time: it only tries single
-fractions, each by itself, and looks for a beat 0 that suits all the times.
+fractions, each by itself, and looks for a beat 0 that suits all the times. For window
+it tries number after number as the beat 0, for next one beat behind another.
 """
 
 from fractions import Fraction
@@ -72,6 +73,48 @@ def stretches(lo, hi, off, times):
     return found
 
 
+def can_be_beat_0(number, period, off, times):
+    """Whether the number, tried by itself, can be the beat 0 by the period."""
+    beats = [beat_of(time, number, period, off) for time in times]
+    return None not in beats and beats[0] == 0
+
+
+def window_by(period, off, times):
+    """The least and the greatest of all numbers that can be the beat 0; None if there are none."""
+    # Times and off are whole: told in parts of the period's fraction, so are the least and the greatest.
+    parts = period.denominator
+    in_parts = [time * parts for time in times]
+    first = times[0]
+    found = [
+        number for number in range((first - off) * parts, (first + off) * parts + 1)
+        if can_be_beat_0(number, period.numerator, off * parts, in_parts)]
+    if not found:
+        return None
+    return Fraction(min(found), parts), Fraction(max(found), parts)
+
+
+def first_not_below(greatest, period, time):
+    """The least n for which the greatest and n periods aren't below the time, found one n behind another."""
+    n = 0
+    while greatest + n * period >= time:
+        n -= 1
+    while greatest + n * period < time:
+        n += 1
+    return n
+
+
+def fraction_refused(above, below):
+    return below not in range(1, 1001) or above not in range(1, 1000 * below + 1)
+
+
+def told_fractions(*fractions):
+    """0, then the fractions, each a list of two numbers."""
+    found = [0]
+    for fraction in fractions:
+        found += [2, fraction.numerator, fraction.denominator]
+    return found
+
+
 class SlowBeat:
     """Answers calls one by one, each as the list of its numbers."""
 
@@ -83,7 +126,8 @@ class SlowBeat:
         return len(stretches(*self.bounds, sorted(times)))
 
     def answer(self, call):
-        names = ("begins", "seen", "drop", "periods", "fits", "could")
+        names = ("begins", "seen", "drop", "periods", "fits", "could",
+                 "window", "beats", "next_one", "alone", "times_seen")
         return getattr(self, names[call[0]])(*call[1:])
 
     def begins(self, lo, hi, off):
@@ -119,7 +163,7 @@ class SlowBeat:
         return [len(numbers) // 4, len(numbers)] + numbers
 
     def fits(self, above, below):
-        if below not in range(1, 1001) or above not in range(1, 1000 * below + 1):
+        if fraction_refused(above, below):
             return [-1]
         lo, hi, off = self.bounds
         period = Fraction(above, below)
@@ -134,3 +178,43 @@ class SlowBeat:
         if time > 2000:
             return [-1]
         return [self.count(set(self.times + [time]))]
+
+    def ends_of_beat_0(self, above, below):
+        """The least and the greatest beat 0 as a pair, or the refusal as a list."""
+        if fraction_refused(above, below):
+            return [-1]
+        if not self.times:
+            return [-2]
+        lo, hi, off = self.bounds
+        period = Fraction(above, below)
+        ends = None
+        if lo <= period <= hi:
+            ends = window_by(period, off, self.times)
+        return [-6] if ends is None else ends
+
+    def window(self, above, below):
+        ends = self.ends_of_beat_0(above, below)
+        return ends if isinstance(ends, list) else told_fractions(*ends)
+
+    def next_one(self, above, below, time):
+        if time > 2000:
+            return [-1]
+        ends = self.ends_of_beat_0(above, below)
+        if isinstance(ends, list):
+            return ends
+        period = Fraction(above, below)
+        n = first_not_below(ends[1], period, time)
+        return told_fractions(ends[0] + n * period, ends[1] + n * period)
+
+    def beats(self, stretch):
+        found = stretches(*self.bounds, self.times)
+        if stretch not in range(len(found)):
+            return [-2]
+        row = found[stretch][2]
+        return [len(row), len(row)] + row
+
+    def alone(self):
+        return [int(self.count(self.times) == 1)]
+
+    def times_seen(self):
+        return [len(self.times), len(self.times)] + self.times

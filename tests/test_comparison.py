@@ -5,8 +5,8 @@ import random
 import unittest
 from fractions import Fraction
 
-from lines import begins, could, drop, fits, periods, run, seen
-from slow_beat import SlowBeat, beats_by, points_and_middles
+from lines import alone, beats, begins, could, drop, fits, next_one, periods, run, seen, times_seen, window
+from slow_beat import SlowBeat, beats_by, can_be_beat_0, points_and_middles, told_fractions
 
 # lo, hi, off; the last ones are refused.
 BOUNDS = (
@@ -43,13 +43,17 @@ def some_fraction(dice, bounds):
 
 def some_call(dice, bounds, calls):
     """One call, any of them, but seldom a new begins."""
-    sort = dice.choices((0, 1, 2, 3, 4, 5), (1, 12, 4, 4, 6, 4))[0]
+    sort = dice.choices(range(11), (1, 12, 4, 3, 4, 3, 7, 3, 8, 2, 3))[0]
     if sort == 0:
         return begins(*dice.choice(BOUNDS))
-    if sort == 3:
-        return periods()
-    if sort == 4:
-        return fits(*some_fraction(dice, bounds))
+    if sort in (3, 9, 10):
+        return {3: periods, 9: alone, 10: times_seen}[sort]()
+    if sort in (4, 6):
+        return {4: fits, 6: window}[sort](*some_fraction(dice, bounds))
+    if sort == 7:
+        return beats(dice.choice((0, 0, 1, 2, 3, 4294967295)))
+    if sort == 8:
+        return next_one(*some_fraction(dice, bounds), some_time(dice, bounds[2]))
     asked = [call[1] for call in calls if call[0] == 1]
     if sort == 2 and asked and dice.random() < 0.8:
         return drop(dice.choice(asked))
@@ -105,6 +109,71 @@ class Comparison(unittest.TestCase):
             dice.shuffle(times)
             self.compare([begins(8, 11, 1)] + [seen(time) for time in times[:10]]
                          + [could(times[10]), seen(times[10]), fits(10, 1), periods(), drop(times[3]), periods()])
+
+
+class WindowsInComparison(unittest.TestCase):
+    def compare(self, calls):
+        self.assertEqual(run(*calls), slow_run(calls), f"calls: {calls}")
+
+    def test_at_the_ends_of_stretches_and_between(self):
+        dice = random.Random(7)
+        for _ in range(60):
+            lo, hi, off = dice.choice(((8, 20, 1), (9, 20, 2), (13, 30, 3), (10, 16, 0)))
+            times = some_even_times(dice, dice.randint(lo, hi), off, dice.randint(1, 4))
+            line = [begins(lo, hi, off)] + [seen(time) for time in times]
+            numbers = run(*line, periods())[-1][2:]
+            ends = [Fraction(above, below) for above, below in zip(numbers[0::2], numbers[1::2])]
+            asked = [point for point in points_and_middles(ends) if point.denominator <= 1000]
+            for point in dice.sample(asked, min(8, len(asked))):
+                fraction = (point.numerator, point.denominator)
+                near = max(0, dice.choice(times) + dice.randint(-3, 3))
+                self.compare(line + [window(*fraction)] + [
+                    next_one(*fraction, time) for time in (0, near, near + 1, dice.randrange(2001), 2000)])
+
+    def test_each_time_of_next(self):
+        for bounds, times, fraction in (
+                ((8, 20, 1), (40, 80), (27, 2)), ((20, 30, 4), (60, 77), (23, 1)), ((9, 20, 2), (100,), (1001, 100)),
+                ((8, 20, 0), (33, 73), (40, 3))):
+            line = [begins(*bounds)] + [seen(time) for time in times]
+            for time in range(0, 140, 10):
+                self.compare(line + [next_one(*fraction, time + step) for step in range(10)])
+
+    def test_each_stretch(self):
+        dice = random.Random(8)
+        for _ in range(40):
+            bounds = dice.choice(((8, 20, 1), (9, 20, 2), (13, 30, 3), (10, 16, 0)))
+            times = some_even_times(dice, dice.randint(bounds[0], bounds[1]), bounds[2], dice.randint(2, 5))
+            self.compare([begins(*bounds)] + [seen(time) for time in times] + [alone(), times_seen()]
+                         + [beats(stretch) for stretch in range(8)] + [drop(max(times)), alone(), beats(0)])
+
+
+class EachBeat0ByItself(unittest.TestCase):
+    """The windows that are answered: numbers tried at their ends, within them and beside them."""
+
+    def check(self, bounds, times, period):
+        answer = run(begins(*bounds), *[seen(time) for time in times], window(period.numerator, period.denominator))[-1]
+        least, greatest = Fraction(answer[2], answer[3]), Fraction(answer[5], answer[6])
+        self.assertEqual(answer, told_fractions(least, greatest))
+        self.assertLessEqual(least, greatest)
+        for part in range(8):
+            inside = least + (greatest - least) * Fraction(part, 7)
+            self.assertTrue(can_be_beat_0(inside, period, bounds[2], sorted(times)), (bounds, times, period, inside))
+        for beside in (least - NEAR, least - 1, least - period, greatest + NEAR, greatest + 1, greatest + period):
+            self.assertFalse(can_be_beat_0(beside, period, bounds[2], sorted(times)), (bounds, times, period, beside))
+
+    def test_many(self):
+        dice = random.Random(9)
+        for _ in range(300):
+            off = dice.randint(0, 30)
+            lo = 4 * off + dice.randint(8, 40)
+            below = dice.choice((1, 1, 2, 7, 60, 999))
+            period = Fraction(dice.randint(lo * below, (lo + 20) * below), below)
+            # Each even beat is rounded, so that off may be one less than the times want.
+            beats_taken = dice.sample(range(11), dice.randint(1, 6))
+            early = max(0, off - 1)
+            times = [off + int(beat * period) + dice.randint(-early, early) for beat in beats_taken]
+            if off > 0 or period.denominator == 1:
+                self.check((lo, lo + 20, off), times, period)
 
 
 class EachFractionByItself(unittest.TestCase):
